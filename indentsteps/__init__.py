@@ -1,0 +1,1 @@
+"""Indenting and outdenting selected lines of a text."""
