@@ -1,4 +1,4 @@
-"""The opening of the interface: names, arguments, and the files that define them."""
+"""The interface: names, arguments, and the files that define them."""
 
 import ast
 import importlib
@@ -15,6 +15,26 @@ FUNCTIONS = {
     "commands": {
         "apply": ["text", "script"],
         "idle": ["text", "script"],
+    },
+    "distances": {
+        "distance": ["text", "wish"],
+        "best_counts": ["text", "wish"],
+        "counts_cost": ["outs", "ins"],
+        "is_certificate": ["text", "wish", "value"],
+        "plan": ["text", "wish"],
+    },
+    "scripts": {
+        "effects": ["length", "script"],
+        "difference": ["length", "first", "second"],
+        "equal": ["length", "first", "second"],
+        "commute": ["one", "other"],
+        "fewest_equal": ["length", "script"],
+        "shortest_equal": ["length", "script"],
+        "sources": ["script", "result"],
+    },
+    "search": {
+        "count_plans": ["text", "target"],
+        "hidden_commands": ["text", "script", "position", "result"],
     },
 }
 
