@@ -1,5 +1,6 @@
 """The fewest commands from a text to a wish, with certificates and scripts."""
 
+from indentsteps.prices import all_prices, pair_below
 from indentsteps.texts import is_between
 
 MOST_COUNT = 1000
@@ -42,44 +43,24 @@ def is_certificate(text, wish, value):
     return all([serves(depth, wished, less, more) for depth, wished, less, more in zip(text, wish, outs, ins)])
 
 
-def choices(depth, wished, most):
-    """List the pairs of at most so many outs and then ins that lead from one depth to another."""
-    fewest = max(0, depth - wished)
-    return [(less, wished - max(0, depth - less)) for less in range(fewest, most + 1)]
-
-
-def climb(before, pair):
-    """Return what a line's pair of outs and ins adds to the cost behind the pair of the line before it."""
-    return max(0, pair[0] - before[0]) + max(0, pair[1] - before[1])
-
-
-def extended(ways, pair):
-    """Return the cheapest way that ends with a pair; a way is its cost and the tuple of its lines' pairs."""
-    cost, pairs = min([(paid + climb(past[-1], pair), past) for paid, past in ways])
-    return (cost, (*pairs, pair))
-
-
 def best_counts(text, wish):
     """Return a certificate with the smallest cost."""
-    # More outs than the largest depth have no further effect, so cutting them to it only saves rises.
-    most = max([0, *text])
-    # Only the last pair of a way decides what the lines below add: one way for each last pair is enough.
-    ways = [(0, ((0, 0),))]
-    for depth, wished in zip(text, wish):
-        if wished is None:
-            # A free line repeats the pair above it, which adds nothing.
-            ways = [(cost, (*pairs, pairs[-1])) for cost, pairs in ways]
-        else:
-            # No line gets beyond the margin, whatever a wish outside the limits asks for.
-            ways = [extended(ways, pair) for pair in choices(depth, max(0, wished), most)]
-    _, best = min(ways)
-    return (tuple([less for less, _ in best[1:]]), tuple([more for _, more in best[1:]]))
+    prices = all_prices(text, wish)
+    outs = []
+    ins = []
+    less = more = 0
+    for wished in wish:
+        # A free line repeats the pair above it, which adds nothing.
+        if wished is not None:
+            less, more = pair_below(less, more, prices.pop())
+        outs.append(less)
+        ins.append(more)
+    return (tuple(outs), tuple(ins))
 
 
 def distance(text, wish):
     """Return the smallest number of commands that lead from the text to a text that fits the wish."""
-    outs, ins = best_counts(text, wish)
-    return counts_cost(outs, ins)
+    return all_prices(text, wish)[-1][0]
 
 
 def counts_commands(name, counts):

@@ -89,6 +89,25 @@ class Distances(Checks):
                     self.check(distance(text, wish), distance, (depth,) + text, (depth,) + wish)
                     self.check(distance(text, wish), distance, text + (depth,), wish + (depth,))
 
+    def test_each_line_left_out_put_in_twice_or_wished_otherwise(self):
+        for text, wish in pairs_of_texts(random.Random(18)):
+            whole = distance(text, wish)
+            for line, wished in enumerate(wish):
+                above, here, below = slice(line), slice(line, line + 1), slice(line + 1, None)
+                left_out = 0
+                if len(text) > 1:
+                    left_out = distance(text[above] + text[below], wish[above] + wish[below])
+                self.assertEqual(distance(text, wish[above] + (None,) + wish[below]), left_out, (text, wish, line))
+                self.assertLessEqual(left_out, whole, (text, wish, line))
+                if len(text) < 20:
+                    # The commands that select a line can select the same line below it, too.
+                    twice = [row[above] + row[here] * 2 + row[below] for row in (text, wish)]
+                    self.assertEqual(distance(*twice), whole, (text, wish, line))
+                if wished is not None and wished < 20:
+                    # One command for this line leads from either wish to the other.
+                    further = distance(text, wish[above] + (wished + 1,) + wish[below])
+                    self.assertLessEqual(abs(further - whole), 1, (text, wish, line))
+
     def test_to_and_from_the_margin(self):
         for text, _ in pairs_of_texts(random.Random(8)):
             margin = (0,) * len(text)
